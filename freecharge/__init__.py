@@ -1,0 +1,1 @@
+"""Free of charge: small sets for variables, what is related of them, and the kinds built from them."""
