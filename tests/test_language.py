@@ -1,4 +1,4 @@
-"""The package's own files keep to the part of Python that the program is written in."""
+"""Many of the rules of the part of Python that the package's own files keep to; not all of them are checked here."""
 
 import ast
 import builtins
