@@ -1,4 +1,7 @@
-"""The kinds: variables, two, pairs, either, functions; how they stand in a row, and how many values each has."""
+"""The kinds: variables, two, pairs, either, functions; how they stand in a row, and how many values each has.
+
+A kind is a tuple: its head, then which variable it is, or its two parts.
+"""
 
 from freecharge.reader import Reader
 from freecharge.refusals import TooLarge, Unfit
@@ -13,25 +16,24 @@ DEEPEST = 6
 LARGEST = 256
 
 
-def read_kind(reader, variables):
-    """The nodes of the kind that stands next, each ahead of its parts: what it is, and which variable."""
-    nodes = []
-    # The depths of the parts still to be read: a row may nest deeper than calls within one another may.
-    waiting = [1]
-    while len(waiting) > 0:
-        depth = waiting.pop()
-        head = reader.take()
-        if depth > DEEPEST or head > FUNCTION:
-            raise Unfit()
-        nodes.append((head, read_variable(reader, head, variables)))
-        if head in (PAIR, EITHER, FUNCTION):
-            waiting.extend([depth + 1, depth + 1])
-    return nodes
+def read_kind(reader, variables, depth=1):
+    """The kind that stands next."""
+    # Refused before it is gone into, so that calls within one another stay as few as a kind may be deep.
+    if depth > DEEPEST:
+        raise Unfit()
+    head = reader.take()
+    if head == VARIABLE:
+        return (VARIABLE, read_variable(reader, variables))
+    if head == TWO:
+        return (TWO,)
+    if head > FUNCTION:
+        raise Unfit()
+    first = read_kind(reader, variables, depth + 1)
+    second = read_kind(reader, variables, depth + 1)
+    return (head, first, second)
 
 
-def read_variable(reader, head, variables):
-    if head != VARIABLE:
-        return None
+def read_variable(reader, variables):
     variable = reader.take()
     if variable >= variables:
         raise Unfit()
@@ -39,32 +41,43 @@ def read_variable(reader, head, variables):
 
 
 def read_kind_row(row, variables):
-    """The nodes of the one kind that the whole row is."""
+    """The one kind that the whole row is."""
     reader = Reader(row)
-    nodes = read_kind(reader, variables)
+    kind = read_kind(reader, variables)
     if not reader.at_end():
         raise Unfit()
-    return nodes
+    return kind
 
 
-def kind_size(nodes, set_sizes):
+def kind_row(kind):
+    """The row of a kind: each part ahead of its own."""
+    row = []
+    waiting = [kind]
+    while len(waiting) > 0:
+        part = waiting.pop()
+        row.append(part[0])
+        if part[0] == VARIABLE:
+            row.append(part[1])
+        elif part[0] != TWO:
+            waiting.append(part[2])
+            waiting.append(part[1])
+    return row
+
+
+def kind_size(kind, set_sizes, largest):
     """How many values a kind has over sets of these sizes for the variables."""
-    sizes = []
-    # From the end on, a node comes when its parts' sizes are there, its first part's on top.
-    for node in reversed(nodes):
-        if node[0] == VARIABLE:
-            size = set_sizes[node[1]]
-        elif node[0] == TWO:
-            size = 2
-        else:
-            first = sizes.pop()
-            second = sizes.pop()
-            size = joined_size(node[0], first, second)
-        # Asked of each part, since a kind can be small over one that is too large.
-        if size > LARGEST:
-            raise TooLarge()
-        sizes.append(size)
-    return sizes[0]
+    if kind[0] == VARIABLE:
+        size = set_sizes[kind[1]]
+    elif kind[0] == TWO:
+        size = 2
+    else:
+        first = kind_size(kind[1], set_sizes, largest)
+        second = kind_size(kind[2], set_sizes, largest)
+        size = joined_size(kind[0], first, second)
+    # Asked of each part, since a kind can be small over one that is too large.
+    if size > largest:
+        raise TooLarge()
+    return size
 
 
 def joined_size(head, first, second):

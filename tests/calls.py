@@ -38,6 +38,68 @@ def size(side, row):
     return [3, side, len(row)] + row
 
 
+def meaning(side, row):
+    return [4, side, len(row)] + row
+
+
+def related(x, y, row):
+    return [5, x, y, len(row)] + row
+
+
+def count(row):
+    return [6, len(row)] + row
+
+
+def kept(row):
+    return [7, len(row)] + row
+
+
+YES = [9]
+NO = [10]
+
+
+def use(number):
+    """The term that is a variable."""
+    return [0, number]
+
+
+def both(first_term, second_term):
+    return [1] + first_term + second_term
+
+
+def first(term):
+    return [2] + term
+
+
+def second(term):
+    return [3] + term
+
+
+def left(second_type, term):
+    return [4] + second_type + term
+
+
+def right(first_type, term):
+    return [5] + first_type + term
+
+
+def cases(term, for_left, for_right):
+    return [6] + term + for_left + for_right
+
+
+def taking(argument, body):
+    """The term that is a function."""
+    return [7] + argument + body
+
+
+def put(term, argument):
+    return [8] + term + argument
+
+
+def ask_if(term, for_yes, for_no):
+    return [11] + term + for_yes + for_no
+
+
 def joined(calls):
     numbers = []
     for call in calls:
@@ -58,10 +120,23 @@ def split(answered):
     return found
 
 
+def tell(*calls):
+    """What each of these calls answers, on one new house: its numbers."""
+    found = split(answers(joined(calls)))
+    if len(found) != len(calls):
+        raise AssertionError(f"not one answer for each call: {found}")
+    return found
+
+
+def last(*calls):
+    """What the last of these calls answers."""
+    return tell(*calls)[-1]
+
+
 def ask(*calls):
     """What each of these calls answers, on one new house: its only number."""
-    found = split(answers(joined(calls)))
-    if len(found) != len(calls) or any(len(answer) != 1 for answer in found):
+    found = tell(*calls)
+    if any(len(answer) != 1 for answer in found):
         raise AssertionError(f"not one number for each call: {found}")
     return [answer[0] for answer in found]
 
