@@ -1,7 +1,8 @@
 """What terms mean, as the numbers of values of their kinds.
 
 A part is gone through once for all choices of the arguments around it together: its table has one number for each
-choice, the innermost argument changing fastest.
+choice, the innermost argument changing fastest. The term's weight bounds these tables, since what weighs 0 is gone
+through without the arguments around it.
 """
 
 from freecharge.kinds import LARGEST, kind_size
@@ -36,10 +37,14 @@ def found_weight(part, set_sizes):
 
 def part_table(part, around, set_sizes):
     """The table of a part; around: how many values each argument around it has, the innermost last."""
-    # What has one value alone need not be gone into. Functions from none are such: their weight, 0, would not bound
-    # the table. And so are all functions that take more than 8 values, since there are 256 functions at most.
+    # What has one value alone need not be gone into. Functions from none are such, and so are all functions that take
+    # more than 8 values, since there are 256 functions at most.
     if part.extent == 1:
         return [0] * choices(around)
+    # A weight of 0 doesn't bound how many choices are around. But then each variable in the part stands within a
+    # function from none, which isn't gone into: the part means the same for all choices, so it's gone through for one.
+    if part.weight == 0 and len(around) > 0:
+        return part_table(part, [], set_sizes) * choices(around)
     if part.head == VARIABLE_TERM:
         return variable_table(part.told, around)
     if part.head == FUNCTION_TERM:
